@@ -1,0 +1,1 @@
+"""Dealclerks: two wares with a sign between them."""
