@@ -10,8 +10,13 @@ def is_whole(thing):
     return isinstance(thing, int) and not isinstance(thing, bool)
 
 
+def is_between(thing, least, greatest):
+    """Whether thing is a whole number from least to greatest."""
+    return is_whole(thing) and least <= thing <= greatest
+
+
 def is_kind_below(thing, many):
-    return is_whole(thing) and 0 <= thing < many
+    return is_between(thing, 0, many - 1)
 
 
 def are_unlike_kinds(thing, many):

@@ -37,11 +37,16 @@ def told_line(lines, thing):
     return None if left else merged
 
 
-def line_of(family, caller):
-    told = told_line(lines_of_lined(family), caller)
+def need_caller(lines, thing):
+    """The told line of a caller of the family with these lines; refuses what is none."""
+    told = told_line(lines, thing)
     if told is None:
         raise NoCaller("this is no caller of the family")
     return told
+
+
+def line_of(family, caller):
+    return need_caller(lines_of_lined(family), caller)
 
 
 def is_caller(family, thing):
