@@ -93,6 +93,11 @@ def need_house(thing):
     return lines
 
 
+def copied(books):
+    """A new dict of the same writings, which are tuples throughout."""
+    return {page: books[page] for page in books}
+
+
 def need_sign(mirrors, thing):
     if not is_sign(thing, mirrors):
         raise NoSign("this is no sign of the house")

@@ -63,7 +63,11 @@ def unlike_rows(many):
     return rows
 
 
-def callers(family):
-    lines = lines_of_lined(family)
+def callers_under(lines):
+    """All callers of the family with these lines, in the callers' order."""
     rows = [row for row in unlike_rows(len(lines)) if told_line(lines, row) is not None]
     return list(range(len(lines))) + rows
+
+
+def callers(family):
+    return callers_under(lines_of_lined(family))

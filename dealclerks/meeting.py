@@ -1,14 +1,14 @@
 """Two callers meet: whose clerk is asked first, and what comes of it.
 
-Within this file a party is a tuple (kind, told) of a caller: its told line, and ahead of it the kind itself, or None
-of a row of elders; so two parties are the same kind of the family just where their kinds are alike and not None.
+A party is a tuple (kind, told) of a caller: its told line, and ahead of it the kind itself, or None of a row of
+elders; so two parties are the same kind of the family just where their kinds are alike and not None.
 """
 
 from dealclerks.asking import answer
 from dealclerks.books import FIRST, GIVES_UP, PLACE, SECOND, SIDED, first_written, need_house, need_sign
 from dealclerks.errors import NoSign
 from dealclerks.kinds import is_whole
-from dealclerks.lines import need_caller
+from dealclerks.lines import callers_under, need_caller
 
 # Whose asking it is, as asked and in_place tell it.
 FORE = 0
@@ -19,6 +19,11 @@ IN_PLACE = 2
 def need_party(lines, caller):
     told = need_caller(lines, caller)
     return (caller if is_whole(caller) else None), told
+
+
+def all_parties(lines):
+    """The list of the tuples (caller, party) of all callers, in the callers' order."""
+    return [(caller, need_party(lines, caller)) for caller in callers_under(lines)]
 
 
 def need_parties(house, one, sign, other):
@@ -40,6 +45,13 @@ def back_page(mirrors, sign):
     return mirrors[sign], FIRST
 
 
+def page_of(mirrors, who, sign):
+    """The sign and the side by which one of the askings is made."""
+    if who == BACK:
+        return back_page(mirrors, sign)
+    return sign, (PLACE if who == IN_PLACE else FIRST)
+
+
 def goes_back_first(house, one, sign, other):
     """What back_first tells, of parties."""
     if one[0] is None or are_same_kind(one, other) or one[0] not in other[1]:
@@ -57,12 +69,9 @@ def order_of_askings(house, one, sign, other):
 
 def answer_of(house, who, one, sign, other):
     """The tuple (who, steps, made) of one of the askings between parties."""
-    if who == BACK:
-        back_sign, side = back_page(house[1], sign)
-        steps, made = answer(house[2], other[1], back_sign, side, one[1])
-    else:
-        side = PLACE if who == IN_PLACE else FIRST
-        steps, made = answer(house[2], one[1], sign, side, other[1])
+    first, second = (other, one) if who == BACK else (one, other)
+    asked_sign, side = page_of(house[1], who, sign)
+    steps, made = answer(house[2], first[1], asked_sign, side, second[1])
     return who, steps, made
 
 
@@ -94,6 +103,26 @@ def meeting_in_place(house, one, sign, other):
     return answers_up_to_made(house, (IN_PLACE, *order), one, sign, other)
 
 
+def made_by(house, one, sign, other):
+    """What meets tells, of parties."""
+    return last_made(meeting_of(house, one, sign, other))
+
+
+def made_in_place(house, one, sign, other):
+    """What placed tells, of parties."""
+    return last_made(meeting_in_place(house, one, sign, other))
+
+
+def made_by_itself(house, one, sign):
+    """What itself tells, of a party."""
+    return last_made([answer_of(house, FORE, one, sign, one)])
+
+
+def made_by_kinds(house, lines, one, sign, other):
+    """What meets tells, of kinds of the house with these lines."""
+    return made_by(house, (one, lines[one]), sign, (other, lines[other]))
+
+
 def back_first(house, one, sign, other):
     first, second = need_parties(house, one, sign, other)
     return goes_back_first(house, first, sign, second)
@@ -105,13 +134,14 @@ def asked(house, one, sign, other):
 
 
 def meets(house, one, sign, other):
-    return last_made(asked(house, one, sign, other))
+    first, second = need_parties(house, one, sign, other)
+    return made_by(house, first, sign, second)
 
 
 def itself(house, one, sign):
     party = need_party(need_house(house), one)
     need_sign(house[1], sign)
-    return last_made([answer_of(house, FORE, party, sign, party)])
+    return made_by_itself(house, party, sign)
 
 
 def in_place(house, one, sign, other):
@@ -120,13 +150,13 @@ def in_place(house, one, sign, other):
 
 
 def placed(house, one, sign, other):
-    return last_made(in_place(house, one, sign, other))
+    first, second = need_parties(house, one, sign, other)
+    return made_in_place(house, first, sign, second)
 
 
 def is_crossed(house, one, sign, other):
     """Whether the meeting of two parties makes something else than that of the other one with the one."""
-    there = last_made(meeting_of(house, one, sign, other))
-    return there != last_made(meeting_of(house, other, house[1][sign], one))
+    return made_by(house, one, sign, other) != made_by(house, other, house[1][sign], one)
 
 
 def crossed(house, sign):

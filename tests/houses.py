@@ -126,6 +126,32 @@ def some_house(seed):
     return family, mirrors, books
 
 
+def some_answering_house(seed):
+    """A house that hangs on the seed alone, in which each meeting is answered."""
+    random = Random(seed)
+    family, mirrors, drawn = some_house(seed)
+    many = len(family)
+    grounds = {(kind, sign, FIRST): ((-1, random.randrange(many)),)
+               for kind in range(many) if not family[kind] for sign in range(len(mirrors))}
+    books = {}
+    for page, writing in {**grounds, **drawn}.items():
+        # Behind a kind without elders there is nobody to hand on to.
+        barred = (-1,) if family[page[0]] else (-1, -2)
+        cases = [(other, random.randrange(many) if what in barred else what) for other, what in writing[:5]]
+        books[page] = (*cases, (-1, random.randrange(many)))
+    return family, mirrors, books
+
+
+def all_made(house):
+    """What each two kinds make by each sign, by (one, sign, other), as Python's own operators tell it."""
+    found = {}
+    for sign in range(len(house[1])):
+        wares = Wares(house, sign)
+        for one, other in product(range(len(house[0])), repeat=2):
+            found[one, sign, other] = made_of(wares.asked(one, other))
+    return found
+
+
 def mixed_house():
     return DIAMOND, MIXED, right_books()
 

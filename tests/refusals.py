@@ -1,10 +1,12 @@
 """Refusals in the order of the arguments, for the tests of all functions that take a house."""
 
-from dealclerks.errors import NoCaller, NoHouse, NoKind, NoSide, NoSign
-from tests.houses import FIRST, PLACE, SECOND, mixed_house, no_houses
+from dealclerks.errors import NoCaller, NoElders, NoHouse, NoKind, NoRow, NoSide, NoSign, NoTree, NoWriting
+from tests.forest import LEFT, WRONG_PARTS, doubled, leaning
+from tests.houses import FIRST, NO_WRITINGS, PLACE, SECOND, mixed_house, no_houses
 from tests.samples import DEEP, NO_FAMILIES, PLAIN
 
 NO_INTS = [thing for thing in NO_FAMILIES if not isinstance(thing, int) or isinstance(thing, bool)]
+NO_TUPLES_OF_KINDS = [thing for thing in NO_FAMILIES if repr(thing) not in ("()", "(0,)")]
 BEYOND = [-1, -2, 4, 5, 6, 7, 10 ** 30, -(10 ** 30)]
 
 # Of the house that mixed_house tells: rights, wrongs and the class by which these are refused.
@@ -13,6 +15,10 @@ RIGHT = {
     "kind": [0, 1, 3],
     "sign": [0, 1, 3],
     "side": [FIRST, PLACE],
+    "tree": [0, 3, (0, 0, 0)],
+    "row": [(0,), (0, 1, 3), (0,) * 12],
+    "writing": [((-1, -1),), ((3, 3), (0, -2))],
+    "elders": [(0,), (1, 2)],
 }
 WRONG = {
     "caller": PLAIN[:3] + BEYOND + ["", "0", "a", [], {}, (), [0], (4,), (-1,), (0, 0), (0, 1), (0, 3), (1, 3), (True,),
@@ -22,8 +28,20 @@ WRONG = {
     "sign": NO_INTS + BEYOND,
     "side": [None, True, False, 0, 1, 2, -1, "", "First", "first ", " first", "fir", "fore", "third", "places", [], {}, (),
              (FIRST,), [FIRST], [PLACE], {FIRST: FIRST}, (FIRST, SECOND, PLACE), 10 ** 30, "first second"] + DEEP,
+    "tree": WRONG_PARTS + [4, 5, (4, 0, 0), (0, 0, 5), (0, 4, 0), (0, 0, (0, 4, 0)), leaning(41, 0, LEFT), doubled(6)],
+    "row": NO_TUPLES_OF_KINDS + [
+        (), (4,), (-1,), (0, 4), (4, 0), (0,) * 13, (0,) * 14, (True,), (0, False), [0], [0, 1], (0, None), ("0",), ((0,),),
+        (0, [0]), {0: 0}, (10 ** 30,), (0,) * 11 + (4,), (True,) + (0,) * 11],
+    "writing": NO_WRITINGS,
+    # Not (): that is no row of elders, but clerks take it.
+    "elders": NO_TUPLES_OF_KINDS + [
+        (4,), (-1,), (0, 0), (0, 4), (1, 0, 1), (True,), (False,), (1, True), [0], [], (0, None), ("0",), ((0,),), ((),),
+        {0: 0}, (10 ** 30,), (3, 2, 1, 0, 3), (0, 1, 2, 3, 4)],
 }
-CLASSES = {"caller": NoCaller, "kind": NoKind, "sign": NoSign, "side": NoSide}
+CLASSES = {
+    "caller": NoCaller, "kind": NoKind, "sign": NoSign, "side": NoSide, "tree": NoTree, "row": NoRow,
+    "writing": NoWriting, "elders": NoElders,
+}
 
 
 def few(things, many):

@@ -47,6 +47,20 @@ def top_names(tree):
     return found
 
 
+def classes():
+    return [node for file, tree in trees() for node in tree.body if isinstance(node, ast.ClassDef)]
+
+
+def own_methods():
+    return [part.name for node in classes() for part in node.body if isinstance(part, ast.FunctionDef)]
+
+
+def own_attributes():
+    """The names that are assigned as attributes, in methods and in functions."""
+    return [node.attr for file, tree in trees() for node in ast.walk(tree)
+            if isinstance(node, ast.Attribute) and isinstance(node.ctx, ast.Store)]
+
+
 class FilesTest(unittest.TestCase):
     def test_the_folder_has_python_files_alone(self):
         found = [path.name for path in PACKAGE.iterdir() if path.name != "__pycache__"]
@@ -125,13 +139,34 @@ class CodeTest(unittest.TestCase):
                         self.assertNotIn(chr(37), node.value, (file, node.lineno))
 
     def test_called_are_own_functions_and_known_builtins(self):
+        methods = METHODS | set(own_methods())
         for file, tree in trees():
-            own = set(top_names(tree))
+            # A function from a table is assigned to a name first.
+            tables = {target.id for node in ast.walk(tree) if isinstance(node, ast.Assign)
+                      and isinstance(node.value, ast.Subscript) for target in node.targets
+                      if isinstance(target, ast.Name)}
+            own = set(top_names(tree)) | tables
             for node in ast.walk(tree):
                 if isinstance(node, ast.Call) and isinstance(node.func, ast.Name):
                     self.assertIn(node.func.id, own | BUILTINS, (file, node.lineno))
                 if isinstance(node, ast.Call) and isinstance(node.func, ast.Attribute):
-                    self.assertIn(node.func.attr, METHODS, (file, node.lineno))
+                    self.assertIn(node.func.attr, methods, (file, node.lineno))
+
+    def test_methods_and_attributes(self):
+        methods = [name for name in own_methods() if name != "__init__"]
+        self.assertEqual(set(methods) & set(own_attributes()), set())
+        for value in ("", 0, [], {}, set(), b""):
+            self.assertEqual({name for name in methods + own_attributes() if hasattr(value, name)}, set())
+        read = {node.attr for file, tree in trees() for node in ast.walk(tree) if isinstance(node, ast.Attribute)}
+        self.assertEqual(read - set(own_attributes()) - set(methods) - METHODS, set())
+        for name in set(methods + own_attributes()):
+            self.assertFalse(name.startswith("_"), name)
+
+    def test_every_import_is_used(self):
+        for file, tree in trees():
+            used = {node.id for node in ast.walk(tree) if isinstance(node, ast.Name)}
+            brought = {alias.name for node in tree.body if isinstance(node, ast.ImportFrom) for alias in node.names}
+            self.assertEqual(brought - used, set(), file)
 
     def test_local_names(self):
         for file, tree in trees():
