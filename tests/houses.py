@@ -142,6 +142,22 @@ def some_answering_house(seed):
     return family, mirrors, books
 
 
+def some_keeping_house(seed, sign):
+    """A house that hangs on the seed alone, and keeps the promise for this sign of its mirrors; None without it."""
+    family, mirrors, books = some_answering_house(seed)
+    if sign >= len(mirrors):
+        return None
+    made = seed % len(family)
+    if mirrors[sign] == sign:
+        # Both askings are made by the same pages, so all of them have to make the same kind.
+        books = {page: tuple((other, what if what == -2 else made) for other, what in writing)
+                 for page, writing in books.items()}
+    else:
+        back = (sign, SECOND) if mirrors[sign] == -1 else (mirrors[sign], FIRST)
+        books = {page: writing for page, writing in books.items() if page[1:] != back}
+    return family, mirrors, books
+
+
 def all_made(house):
     """What each two kinds make by each sign, by (one, sign, other), as Python's own operators tell it."""
     found = {}

@@ -8,7 +8,7 @@ from random import Random
 from dealclerks.books import is_house
 from dealclerks.clerks import Clerks
 from dealclerks.errors import (
-    DealError, Missing, NoDeed, NoElders, NoHouse, NoKind, NoLine, NoSide, NoSign, NoWriting, TooMany)
+    DealError, Missing, NoDeed, NoElders, NoKind, NoLine, NoSide, NoSign, NoWriting, TooMany)
 from dealclerks.meeting import meets
 from tests.houses import (
     DIAMOND, FIRST, MIXED, PLACE, SECOND, Wares, made_of, mixed_house, pages, right_books, some_house, some_writing)
